@@ -538,7 +538,7 @@ func TestSmallStaves(t *testing.T) {
 	n.tried(t, 100, api.ErrTwist)
 }
 
-// TestSmallSteps has all staves of up to five steps in 4 ticks.
+// TestSmallSteps has all staves of up to six steps and turns out of a short list, in 4 ticks.
 func TestSmallSteps(t *testing.T) {
 	n := counts{}
 	var all []api.Symbol
